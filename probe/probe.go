@@ -1,10 +1,12 @@
-// Package probe has what the tests of all layers share: bytes of any length, and a watch over bytes that are lent to a call.
+// Package probe has what the tests of all layers share: bytes of any length, a watch over bytes that are lent to a call, and what stands on a disk.
 package probe
 
 import (
 	"bytes"
 	"slices"
 	"strconv"
+
+	"relay/disk"
 )
 
 // spare is how much room stands behind lent bytes.
@@ -61,4 +63,16 @@ func Spoil(b []byte) {
 	for i := range b {
 		b[i] ^= 0xa5
 	}
+}
+
+// Image is what stands in all sectors of d, whether there is power or not.
+func Image(d *disk.Disk) []byte {
+	c := d.Copy()
+	c.Up()
+	var out []byte
+	for i := range c.Size() {
+		b, _ := c.Read(i)
+		out = append(out, b...)
+	}
+	return out
 }

@@ -2,8 +2,10 @@ package probe_test
 
 import (
 	"bytes"
+	"slices"
 	"testing"
 
+	"relay/disk"
 	"relay/probe"
 )
 
@@ -41,5 +43,16 @@ func TestLentTellsEachChange(t *testing.T) {
 	l.Spoil()
 	if l.Kept() || string(b) == "abc" {
 		t.Errorf("%q", b)
+	}
+}
+
+func TestImage(t *testing.T) {
+	d, _ := disk.New(3)
+	d.Write(1, probe.Bytes(64, 1))
+	d.Fail(0, 2)
+	d.Write(2, probe.Bytes(64, 2))
+	want := slices.Concat(make([]byte, 64), probe.Bytes(64, 1), probe.Bytes(64, 2)[:2], make([]byte, 62))
+	if b := probe.Image(d); !bytes.Equal(b, want) || d.On() {
+		t.Errorf("%x", b)
 	}
 }
